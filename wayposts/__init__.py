@@ -1,0 +1,1 @@
+"""Marks that tell distances."""
