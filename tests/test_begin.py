@@ -2,17 +2,24 @@
 
 import unittest
 
-from tests.helper import TOP, ask, last, seen
+from tests.helper import NAMES, TOP, ask, last, seen
 
 OTHERS = [
     ("line", 0, 1, 5), ("cut", 0), ("order", [0]), ("order", []), ("first", 0), ("bestorder",), ("lines",),
     ("orderis",), ("marks", 0), ("size",), ("told", 0, 0), ("dist", 0, 0), ("by", 0, 0), ("who", 0),
     ("without", 0, 0), ("after", 0), ("would", [0, 1]), ("fewest",), ("right", [1, 0, 0]), ("back",), ("state",),
 ]
-WRONG = [("line", TOP, 0, 0), ("cut", TOP), ("order", [65535] * 100), ("first", TOP), ("marks", TOP), ("told", TOP, 9)]
+WRONG = [
+    ("line", TOP, 0, 0), ("cut", TOP), ("order", [65535] * 100), ("first", TOP), ("marks", TOP), ("told", TOP, 9),
+    ("dist", TOP, TOP), ("by", 9, TOP), ("who", TOP), ("without", TOP, TOP), ("after", TOP), ("would", [65535] * 100),
+    ("would", []), ("right", []), ("right", [65535] * 1000),
+]
 
 
 class Before(unittest.TestCase):
+    def test_none_is_forgotten_here(self):
+        self.assertEqual({call[0] for call in OTHERS}, set(NAMES[1:]))
+
     def test_each_other_call_alone(self):
         for call in OTHERS + WRONG:
             with self.subTest(call=call):

@@ -53,6 +53,25 @@ def bound_names(node):
     return []
 
 
+def own_methods():
+    return {
+        node.name for path in FILES for top in nodes(path) if isinstance(top, ast.ClassDef)
+        for node in top.body if isinstance(node, ast.FunctionDef)
+    }
+
+
+def own_values():
+    return {
+        node.attr for path in FILES for node in nodes(path)
+        if isinstance(node, ast.Attribute) and isinstance(node.ctx, ast.Store)
+    }
+
+
+def called_name(call):
+    """The name that a call goes by, of a function or a method."""
+    return getattr(call.func, "id", getattr(call.func, "attr", None))
+
+
 class Language(unittest.TestCase):
     def each(self, check):
         self.assertIn(FOLDER / "places.py", FILES)
@@ -115,10 +134,7 @@ class Language(unittest.TestCase):
         self.each(check)
 
     def test_methods(self):
-        own = {
-            node.name for path in FILES for top in nodes(path) if isinstance(top, ast.ClassDef)
-            for node in top.body if isinstance(node, ast.FunctionDef)
-        }
+        own = own_methods()
 
         def check(node):
             if isinstance(node, ast.Attribute):
@@ -135,6 +151,82 @@ class Language(unittest.TestCase):
                 self.assertEqual(node.level, 0)
                 self.assertIn(node.module, {"wayposts." + name for name in own})
                 self.assertNotIn("*", [alias.name for alias in node.names])
+        self.each(check)
+
+    def test_imports_are_drawn_from_where_they_are_defined(self):
+        drawn = {}
+        for path in FILES:
+            drawn[path.stem] = set()
+            for node in nodes(path):
+                if isinstance(node, ast.ImportFrom):
+                    source = node.module.split(".")[1]
+                    drawn[path.stem].add(source)
+                    top = ast.parse((FOLDER / (source + ".py")).read_text(encoding="ascii")).body
+                    names = {name for row in top for part in [row] + list(getattr(row, "targets", []))
+                             for name in bound_names(part)}
+                    self.assertLessEqual({alias.name for alias in node.names}, names)
+                    self.assertEqual({alias.asname for alias in node.names}, {None})
+        # No two draw from one another: one that draws from none left is always found.
+        while drawn:
+            free = [name for name in drawn if not drawn[name] & set(drawn)]
+            self.assertNotEqual(free, [], drawn)
+            del drawn[free[0]]
+
+    def test_locals_are_not_called_like_imports_and_classes(self):
+        for path in FILES:
+            found = nodes(path)
+            taken = {alias.name for node in found if isinstance(node, ast.ImportFrom) for alias in node.names}
+            taken |= {node.name for node in found if isinstance(node, ast.ClassDef)}
+            for node in found:
+                if isinstance(node, (ast.arg, ast.Name)):
+                    with self.subTest(path=path.name, row=node.lineno):
+                        self.assertEqual(set(bound_names(node)) & taken, set())
+
+    def test_methods_are_called_where_they_stand(self):
+        methods, values = own_methods(), own_values()
+        self.assertEqual(methods & values, set())
+        for name in values:
+            self.assertFalse(any(hasattr(kind, name) for kind in (str, int, list, dict, set, bytes)), name)
+        for path in FILES:
+            found = nodes(path)
+            called = {id(node.func) for node in found if isinstance(node, ast.Call)}
+            for node in found:
+                if isinstance(node, ast.Attribute) and node.attr in METHODS | methods:
+                    with self.subTest(path=path.name, row=node.lineno):
+                        self.assertIn(id(node), called)
+
+    def test_walked_at_once(self):
+        walked = {"zip", "enumerate", "reversed", "range", "items", "keys", "values"}
+        takers = {"list", "tuple", "dict", "sorted", "sum", "any", "all", "enumerate", "zip", "min", "max"}
+        for path in FILES:
+            found = nodes(path)
+            spots = {id(node.iter) for node in found if isinstance(node, (ast.For, ast.comprehension))}
+            spots |= {id(node.args[0]) for node in found
+                      if isinstance(node, ast.Call) and node.args and called_name(node) in takers}
+            for node in found:
+                if isinstance(node, ast.Call) and called_name(node) in walked:
+                    with self.subTest(path=path.name, row=node.lineno):
+                        self.assertIn(id(node), spots)
+
+    def test_what_the_program_has_no_need_of(self):
+        # Narrower than the rules ask, and plain to check.
+        def check(node):
+            self.assertNotIsInstance(node, (ast.Pow, ast.Lambda, ast.Try, ast.JoinedStr, ast.keyword, ast.Raise, ast.Set))
+            if isinstance(node, ast.Name):
+                self.assertNotIn(node.id, ("set", "frozenset", "isinstance", "divmod"))
+            if isinstance(node, ast.Constant) and isinstance(node.value, str):
+                self.assertNotRegex(node.value, r"[\\%]")
+            if isinstance(node, ast.FunctionDef):
+                self.assertIsNone(node.returns)
+            if isinstance(node, ast.FunctionDef) and node.name == "__init__":
+                self.assertFalse(any(isinstance(part, ast.Return) for part in ast.walk(node)))
+            if isinstance(node, ast.arg):
+                self.assertIsNone(node.annotation)
+            if isinstance(node, ast.ClassDef):
+                self.assertEqual([node.bases, node.decorator_list], [[], []])
+                self.assertTrue(all(isinstance(part, ast.FunctionDef) for part in node.body))
+                names = [part.name for part in node.body]
+                self.assertEqual(len(names), len(set(names)))
         self.each(check)
 
     def test_the_top_of_a_file(self):

@@ -62,7 +62,7 @@ class Marks(unittest.TestCase):
         self.assertEqual(ask(*made, ("told", 0, 2), ("marks", 2))[4:], [[2], [3, 0, 2, 1, 2, 2, 0]])
 
     def test_a_line_that_makes_none_shorter(self):
-        self.assertEqual(ask(*PATH, ("line", 0, 2, 50), *seen(3)[1:])[4:], ask(*PATH, *seen(3)[1:])[3:])
+        self.assertEqual(ask(*PATH, ("line", 0, 2, 50), *seen(3)[2:])[4:], ask(*PATH, *seen(3)[2:])[3:])
 
     def test_no_such_place(self):
         for v in (3, 8, 65536, TOP):

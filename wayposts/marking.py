@@ -16,6 +16,14 @@ def told_by(ours, theirs):
     return least
 
 
+def told_through(ours, theirs):
+    """The first place of our marks by which the distance is told, or NOTHING."""
+    least = told_by(ours, theirs)
+    if least == NOTHING:
+        return NOTHING
+    return [mark[0] for mark in ours if told_by([mark], theirs) == least][0]
+
+
 def marks_behind(table, marks, place):
     """The marks of all places when this place has marked, too."""
     # A new list is built, since all are held against the marks as they were
@@ -40,6 +48,18 @@ def marks_by(table, order):
 def how_many(marks):
     """How many marks all places have together."""
     return sum([len(had) for had in marks])
+
+
+def has_mark(had, place):
+    """Whether this place is among the marks."""
+    return place in [mark[0] for mark in had]
+
+
+def without_mark(marks, place, number):
+    """The marks of all places but the one of this place with this number."""
+    fewer = list(marks)
+    fewer[place] = marks[place][:number] + marks[place][number + 1:]
+    return fewer
 
 
 def one_longer(rows, places):
@@ -96,3 +116,13 @@ def all_right(table, marks):
             if told_by(ours, theirs) != distance:
                 return False
     return True
+
+
+def right_pairs(table, marks):
+    """Of how many pairs of two places the marks tell what the table has."""
+    number = 0
+    for v in range(len(table)):
+        for u in range(v):
+            if told_by(marks[u], marks[v]) == table[u][v]:
+                number += 1
+    return number

@@ -15,7 +15,15 @@ ORDERIS = 7
 MARKS = 8
 SIZE = 9
 TOLD = 10
+DIST = 11
+BY = 12
+WHO = 13
+WITHOUT = 14
+AFTER = 15
+WOULD = 16
+FEWEST = 17
 RIGHT = 18
+BACK = 19
 
 # By a call's number: how many whole numbers stand behind it. The calls with a
 # row (order, would, right) have none but the row, with its length before it.
@@ -38,7 +46,7 @@ def given_end(calls, at):
 
 
 def change(posts, number, given):
-    """What a call answers that may change lines or order."""
+    """What a call answers that is a change, if it isn't refused."""
     if number == LINE:
         return posts.line(given[0], given[1], given[2])
     if number == CUT:
@@ -51,7 +59,7 @@ def change(posts, number, given):
 
 
 def look(posts, number, given):
-    """What a call answers that changes nothing."""
+    """What a call answers that shows what is there."""
     if number == LINES:
         return posts.show_lines()
     if number == ORDERIS:
@@ -62,10 +70,24 @@ def look(posts, number, given):
         return posts.size()
     if number == TOLD:
         return posts.told(given[0], given[1])
-    if number == RIGHT:
-        return posts.right(given)
-    # No number would be a true answer of a call that isn't there yet.
-    raise NotImplementedError("this call is not there yet")
+    if number == DIST:
+        return posts.dist(given[0], given[1])
+    if number == BY:
+        return posts.by(given[0], given[1])
+    return posts.who(given[0])
+
+
+def weigh(posts, number, given):
+    """What a call answers about other marks and orders than those that are there."""
+    if number == WITHOUT:
+        return posts.without(given[0], given[1])
+    if number == AFTER:
+        return posts.after(given[0])
+    if number == WOULD:
+        return posts.would(given)
+    if number == FEWEST:
+        return posts.fewest()
+    return posts.right(given)
 
 
 def answer(posts, number, given):
@@ -76,7 +98,13 @@ def answer(posts, number, given):
         return [NOT_BEGUN]
     if number <= BESTORDER:
         return change(posts, number, given)
-    return look(posts, number, given)
+    if number <= WHO:
+        return look(posts, number, given)
+    if number <= RIGHT:
+        return weigh(posts, number, given)
+    if number == BACK:
+        return posts.back()
+    return posts.state()
 
 
 def answers(calls):
